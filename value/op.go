@@ -13,11 +13,11 @@ func Op(op int, a, b api.Value) (api.Value, api.Errno) {
 	}
 	switch op {
 	case api.OpNot:
-		return boolean(!Truth(a)), api.OK
+		return Boolean(!Truth(a)), api.OK
 	case api.OpNeg:
-		return reckon(api.OpSub, number(0), a)
+		return reckon(api.OpSub, Number(0), a)
 	case api.OpSame:
-		return boolean(a == b), api.OK
+		return Boolean(a == b), api.OK
 	case api.OpLess, api.OpMost:
 		return inOrder(op, a, b)
 	case api.OpCat:
@@ -37,7 +37,7 @@ func inOrder(op int, a, b api.Value) (api.Value, api.Errno) {
 	default:
 		return api.Value{}, api.ErrKind
 	}
-	return boolean(way < 0 || way == 0 && op == api.OpMost), api.OK
+	return Boolean(way < 0 || way == 0 && op == api.OpMost), api.OK
 }
 
 func join(a, b api.Value) (api.Value, api.Errno) {
@@ -57,20 +57,20 @@ func reckon(op int, a, b api.Value) (api.Value, api.Errno) {
 	}
 	switch op {
 	case api.OpAdd:
-		return number(a.N + b.N), api.OK
+		return Number(a.N + b.N), api.OK
 	case api.OpSub:
-		return number(a.N - b.N), api.OK
+		return Number(a.N - b.N), api.OK
 	case api.OpMul:
-		return number(a.N * b.N), api.OK
+		return Number(a.N * b.N), api.OK
 	}
 	if b.N == 0 {
 		return api.Value{}, api.ErrZero
 	}
 	q := floorDiv(a.N, b.N)
 	if op == api.OpDiv {
-		return number(q), api.OK
+		return Number(q), api.OK
 	}
-	return number(a.N - q*b.N), api.OK
+	return Number(a.N - q*b.N), api.OK
 }
 
 // floorDiv rounds down, where Go's own division rounds towards nought; b is not 0.

@@ -29,7 +29,7 @@ func May(v api.Value) bool {
 
 // Truth tells what a value is taken for where a condition stands (A2).
 func Truth(v api.Value) bool {
-	return May(v) && !each(v)(api.VNil) && v != boolean(false)
+	return May(v) && !each(v)(api.VNil) && v != Boolean(false)
 }
 
 // Text is what is told of a value (A2).
@@ -64,13 +64,15 @@ func each(vs ...api.Value) func(kinds ...int) bool {
 	}
 }
 
-func boolean(holds bool) api.Value {
+// Boolean is the value true or false.
+func Boolean(holds bool) api.Value {
 	if holds {
 		return api.Value{Kind: api.VBool, N: 1}
 	}
 	return api.Value{Kind: api.VBool}
 }
 
-func number(n int64) api.Value {
+// Number is the value of a number.
+func Number(n int64) api.Value {
 	return api.Value{Kind: api.VInt, N: n}
 }

@@ -2,53 +2,18 @@ package value_test
 
 import (
 	"math"
-	"strings"
 	"testing"
 
 	"packtrail/api"
+	"packtrail/sample"
 	"packtrail/value"
 )
 
-func num(n int64) api.Value   { return api.Value{Kind: api.VInt, N: n} }
-func text(s string) api.Value { return api.Value{Kind: api.VText, S: s} }
-func tab(n int64) api.Value   { return api.Value{Kind: api.VTable, N: n} }
-func fun(n int64) api.Value   { return api.Value{Kind: api.VFun, N: n} }
-
-func boolean(b bool) api.Value {
-	if b {
-		return api.Value{Kind: api.VBool, N: 1}
-	}
-	return api.Value{Kind: api.VBool}
-}
-
-// longest is a text of as many bytes as a value may have.
-func longest() string { return strings.Repeat("m", api.MaxLong) }
-
-// good has values that may be, of each kind, its edges among them.
-func good() []api.Value {
-	return []api.Value{
-		{}, boolean(false), boolean(true),
-		num(0), num(1), num(-1), num(7), num(math.MaxInt64), num(math.MinInt64), num(1 << 31),
-		text(""), text("a"), text("0"), text("nil"), text("\x00\xff"), text(longest()),
-		tab(0), tab(1), tab(math.MaxInt32), fun(0), fun(1), fun(math.MaxInt32),
-	}
-}
-
-// bad has values that may not be, each by one field.
-func bad() []api.Value {
-	return []api.Value{
-		{Kind: api.VNil, N: 1}, {Kind: api.VNil, N: -1}, {Kind: api.VNil, S: "a"},
-		{Kind: api.VBool, N: 2}, {Kind: api.VBool, N: -1}, {Kind: api.VBool, N: 1, S: "a"}, {Kind: api.VBool, S: "a"},
-		{Kind: api.VBool, N: math.MaxInt64}, {Kind: api.VBool, N: 1 << 32},
-		{Kind: api.VInt, S: "a"}, {Kind: api.VInt, N: 5, S: "5"},
-		{Kind: api.VText, N: 1}, {Kind: api.VText, N: -1, S: "a"}, {Kind: api.VText, S: longest() + "m"},
-		{Kind: api.VTable, N: -1}, {Kind: api.VTable, N: 1 << 31}, {Kind: api.VTable, S: "a"},
-		{Kind: api.VTable, N: math.MinInt64}, {Kind: api.VTable, N: math.MaxInt64},
-		{Kind: api.VFun, N: -1}, {Kind: api.VFun, N: 1 << 31}, {Kind: api.VFun, S: "a"},
-		{Kind: api.VFun, N: math.MinInt64}, {Kind: api.VFun, N: math.MaxInt64},
-		{Kind: -1}, {Kind: 6}, {Kind: math.MaxInt}, {Kind: math.MinInt},
-	}
-}
+// Short names for what the tests try most.
+var (
+	num, text, tab, fun, boolean = sample.Num, sample.Text, sample.Tab, sample.Fun, sample.Bool
+	longest, good, bad           = sample.Longest, sample.Good, sample.Bad
+)
 
 // A1: which values may be.
 func TestMay(t *testing.T) {
