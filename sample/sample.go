@@ -1,4 +1,4 @@
-// Package sample has values for tests to try, of each kind those that may be, and those that may not (A1), and programs.
+// Package sample has values for tests to try, of each kind those that may be, and those that may not (A1), and programs, in texts and in orders.
 package sample
 
 import (
