@@ -35,9 +35,23 @@ func passes(t *testing.T, text, want string) {
 	if strings.Join(got, " ") != want || f != (api.Fault{}) {
 		t.Errorf("Slots(%q): %v, %v; want %s", text, got, f, want)
 	}
+	p, f := check.Lay(text)
+	if whole, in := apart(p); !same(whole, n) || !slices.Equal(in, slots) || f != (api.Fault{}) || n.Kids[p.Main()].Text != "main" {
+		t.Errorf("Lay(%q): %+v, %v", text, p, f)
+	}
 }
 
-// refuses asks for a program that may not be: Check and Slots tell the same fault, and nothing else (P2).
+// apart gives a part's node, and the slots of it and those below it, as nodes stand from the left.
+func apart(p check.Part) (api.Node, []int) {
+	n, slots := api.Node{Kind: p.Kind, Text: p.Text, Num: p.Num}, []int{p.Slot}
+	for _, kid := range p.Kids {
+		k, in := apart(kid)
+		n.Kids, slots = append(n.Kids, k), append(slots, in...)
+	}
+	return n, slots
+}
+
+// refuses asks for a program that may not be: Check, Slots and Lay tell the same fault, and nothing else (P2).
 func refuses(t *testing.T, text string, code api.Errno, at int) {
 	t.Helper()
 	want := api.Fault{Code: code, At: at}
@@ -46,6 +60,9 @@ func refuses(t *testing.T, text string, code api.Errno, at int) {
 	}
 	if slots, f := check.Slots(text); len(slots) != 0 || f != want {
 		t.Errorf("Slots(%q): %v, %v; want %v", text, slots, f, want)
+	}
+	if p, f := check.Lay(text); p.Kind != 0 || p.Slot != 0 || len(p.Kids) != 0 || f != want {
+		t.Errorf("Lay(%q): %+v, %v; want %v", text, p, f, want)
 	}
 }
 

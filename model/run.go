@@ -1,10 +1,10 @@
 package model
 
 import (
-	"slices"
 	"strings"
 
 	"packtrail/api"
+	"packtrail/check"
 	"packtrail/table"
 	"packtrail/value"
 )
@@ -12,10 +12,10 @@ import (
 // run is a program at work: it embeds what it shows.
 type run struct {
 	api.Shown
-	funs   []part
-	fuel   int
-	calls  int         // how many have not come back
-	tables []api.Table // by their numbers
+	program check.Part
+	fuel    int
+	calls   int         // how many have not come back
+	tables  []api.Table // by their numbers
 }
 
 // ended is thrown where the whole run ends ahead of main's call.
@@ -38,8 +38,7 @@ func (r *run) begin() {
 			panic(x)
 		}
 	}()
-	main := slices.IndexFunc(r.funs, func(f part) bool { return f.text == "main" })
-	answer := r.call(function(main), nil)
+	answer := r.call(function(r.program.Main()), nil)
 	r.End, r.Last = api.EndDone, told(answer)
 }
 
@@ -80,10 +79,10 @@ func (r *run) call(f api.Value, args []api.Value) (answer api.Value) {
 			panic(x)
 		}
 	}()
-	fun := r.funs[f.N]
+	fun := r.program.Kids[f.N]
 	c := &call{run: r}
-	copy(c.locals[:len(fun.params())], args)
-	c.block(fun.body())
+	copy(c.locals[:len(fun.Params())], args)
+	c.block(fun.Body())
 	return api.Value{}
 }
 
