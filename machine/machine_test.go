@@ -20,26 +20,13 @@ var (
 	yes  = sample.Bool(true)
 	no   = sample.Bool(false)
 	none api.Value
+	same = sample.Same
 )
 
 // order is one with some of its fields, A first.
 func order(op int, fields ...int) api.Instr {
 	all := append(fields, 0, 0, 0)
 	return api.Instr{Op: op, A: all[0], B: all[1], C: all[2]}
-}
-
-// same tells whether two states are the same; an empty list may be nil or not (P3).
-func same(a, b api.State) bool {
-	return slices.EqualFunc(a.Frames, b.Frames, sameFrame) && slices.EqualFunc(a.Tables, b.Tables, sameTable) &&
-		slices.Equal(a.Out, b.Out) && a.Steps == b.Steps && a.End == b.End && a.Err == b.Err && a.Last == b.Last
-}
-
-func sameFrame(a, b api.Frame) bool {
-	return a.Fun == b.Fun && a.PC == b.PC && a.Dest == b.Dest && slices.Equal(a.Regs, b.Regs)
-}
-
-func sameTable(a, b api.Table) bool {
-	return slices.Equal(a.Keys, b.Keys) && slices.Equal(a.Vals, b.Vals)
 }
 
 // program has three functions: g with two parameters and four registers, main with six registers and three constants, h with neither parameters nor constants. main's order 1 is the one that is tried.

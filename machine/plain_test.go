@@ -14,22 +14,10 @@ import (
 	"packtrail/value"
 )
 
-// copied is a state once more.
-func copied(s api.State) api.State {
-	s.Frames, s.Tables, s.Out = slices.Clone(s.Frames), slices.Clone(s.Tables), slices.Clone(s.Out)
-	for i := range s.Frames {
-		s.Frames[i].Regs = slices.Clone(s.Frames[i].Regs)
-	}
-	for i, t := range s.Tables {
-		s.Tables[i] = api.Table{Keys: slices.Clone(t.Keys), Vals: slices.Clone(t.Vals)}
-	}
-	return s
-}
-
 // plain is Go: each step is tried with a state of its own, which is thrown away where the step fails.
 func plain(p api.Code, s api.State, fuel int) api.State {
 	for s.End == api.EndFuel && s.Steps < fuel {
-		next, code := plainStep(p, copied(s))
+		next, code := plainStep(p, sample.Copy(s))
 		if code != api.OK {
 			next = s
 			next.End, next.Err = api.EndFailed, code
@@ -218,7 +206,7 @@ func TestNothingShared(t *testing.T) {
 		s.Tables = append(s.Tables, api.Table{Keys: []api.Value{odd}})[:len(s.Tables)]
 		s.Out = append(s.Out, "behind")[:len(s.Out)]
 		for _, fuel := range []int{0, s.Steps, s.Steps + 1, s.Steps + 20} {
-			was := copied(s)
+			was := sample.Copy(s)
 			got, _ := machine.Go(p, s, fuel)
 			if !same(s, was) || s.Frames[:len(s.Frames)+1][len(s.Frames)].Fun != 99 || s.Out[:len(s.Out)+1][len(s.Out)] != "behind" || len(s.Tables[:len(s.Tables)+1][len(s.Tables)].Keys) != 1 {
 				t.Fatal("changed", number)

@@ -1,6 +1,7 @@
 package sample
 
 import (
+	"slices"
 	"strings"
 
 	"packtrail/api"
@@ -71,4 +72,41 @@ func (d *dice) there(p api.Code, s api.State) api.Value {
 		return Text(strings.Repeat(d.one("a b ab 1"), d.most(2, api.MaxLong/2)))
 	}
 	return d.constant(len(p.Funs))
+}
+
+// StateAt is the state of a number, as State has it, but for its last frame, which is of that function, at that order.
+func StateAt(p api.Code, fun, pc, number int) api.State {
+	s, d := State(p, number), dice(number)
+	f := &s.Frames[len(s.Frames)-1]
+	f.Fun, f.PC, f.Regs = fun, pc, nil
+	for range p.Funs[fun].Regs {
+		f.Regs = append(f.Regs, d.there(p, s))
+	}
+	return s
+}
+
+// Same tells whether two states are the same; an empty list may be nil or not (P3).
+func Same(a, b api.State) bool {
+	return slices.EqualFunc(a.Frames, b.Frames, sameFrame) && slices.EqualFunc(a.Tables, b.Tables, sameTable) &&
+		slices.Equal(a.Out, b.Out) && a.Steps == b.Steps && a.End == b.End && a.Err == b.Err && a.Last == b.Last
+}
+
+func sameFrame(a, b api.Frame) bool {
+	return a.Fun == b.Fun && a.PC == b.PC && a.Dest == b.Dest && slices.Equal(a.Regs, b.Regs)
+}
+
+func sameTable(a, b api.Table) bool {
+	return slices.Equal(a.Keys, b.Keys) && slices.Equal(a.Vals, b.Vals)
+}
+
+// Copy is a state once more, in lists of its own.
+func Copy(s api.State) api.State {
+	s.Frames, s.Tables, s.Out = slices.Clone(s.Frames), slices.Clone(s.Tables), slices.Clone(s.Out)
+	for i := range s.Frames {
+		s.Frames[i].Regs = slices.Clone(s.Frames[i].Regs)
+	}
+	for i, t := range s.Tables {
+		s.Tables[i] = api.Table{Keys: slices.Clone(t.Keys), Vals: slices.Clone(t.Vals)}
+	}
+	return s
 }
