@@ -52,7 +52,15 @@ func (d *dice) constant(funs int) api.Value {
 // order is one that may stand at a place among so many.
 func (d *dice) order(f *api.Fn, at, orders int) api.Instr {
 	a, b, c := d.roll(f.Regs), d.roll(f.Regs), d.roll(f.Regs)
-	switch op := 1 + d.roll(api.CEmit+api.OpNeg); op {
+	return d.with(1+d.roll(lastPick), a, b, c, f, at, orders)
+}
+
+// lastPick is how many kinds of orders there are to pick from: the operations stand just behind the others.
+const lastPick = api.CEmit + api.OpNeg
+
+// with is an order of a kind that was picked, with these registers, as far as it has any.
+func (d *dice) with(op, a, b, c int, f *api.Fn, at, orders int) api.Instr {
+	switch op {
 	case api.CConst:
 		if len(f.Consts) > 0 {
 			return api.Instr{Op: op, A: a, B: d.roll(len(f.Consts))}

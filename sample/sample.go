@@ -1,4 +1,4 @@
-// Package sample has values for tests to try, of each kind those that may be, and those that may not (A1), programs, in texts and in orders, states of these, and traces.
+// Package sample has values for tests to try, of each kind those that may be, and those that may not (A1), programs, in texts and in orders, states of these, rounds, and traces.
 package sample
 
 import (
