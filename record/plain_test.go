@@ -226,13 +226,6 @@ func TestPrograms(t *testing.T) {
 	}
 }
 
-// sameTrace tells whether two traces are the same.
-func sameTrace(a, b api.Trace) bool {
-	return a.Fun == b.Fun && a.Head == b.Head && slices.Equal(a.Ins, b.Ins) && slices.EqualFunc(a.Snaps, b.Snaps, func(a, b api.Snap) bool {
-		return a.PC == b.PC && a.Steps == b.Steps && slices.Equal(a.Regs, b.Regs)
-	})
-}
-
 // sameCode tells whether two programs are the same.
 func sameCode(a, b api.Code) bool {
 	return a.Main == b.Main && slices.EqualFunc(a.Funs, b.Funs, func(a, b api.Fn) bool {
@@ -261,7 +254,7 @@ func TestNothingChanged(t *testing.T) {
 		}
 		was := sample.Copy(s)
 		r, ok := record.Of(p, s, api.MaxIns)
-		if again, _, _ := sample.Round(number); !ok || !sameTrace(r, plain) || !sample.Same(s, was) || !sameCode(p, again) {
+		if again, _, _ := sample.Round(number); !ok || !sample.SameTrace(r, plain) || !sample.Same(s, was) || !sameCode(p, again) {
 			t.Fatalf("changed: %d", number)
 		}
 		there := s.Out[:len(s.Out)+1][len(s.Out)] == "behind" && len(s.Tables[:len(s.Tables)+1][len(s.Tables)].Keys) == 1 && s.Frames[:len(s.Frames)+1][len(s.Frames)].Fun == 99

@@ -344,7 +344,7 @@ func TestLateSteps(t *testing.T) {
 	for _, steps := range []int{1, 2, 59996, 59997, 59998, 59999, 60000} {
 		s := at(0, num(1), num(2))
 		s.Steps = steps
-		if r := records(t, p, s, 3); !sameTrace(r, first) {
+		if r := records(t, p, s, 3); !sample.SameTrace(r, first) {
 			t.Errorf("with %d: %+v", steps, r)
 		}
 	}

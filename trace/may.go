@@ -32,7 +32,7 @@ func (c *checker) maySnaps() bool {
 func (c *checker) mayOrders() bool {
 	for _, o := range c.Ins {
 		row, is := rowOf(o.Op)
-		if !is || !c.mayFields(o, row.fields) || !c.mayV(o.V, row.v) || !c.mayLeave(o.Snap, row.snap) {
+		if !is || !c.mayFields(o, row) || !c.mayV(o.V, row.v) || !c.mayLeave(o.Snap, row.snap) {
 			return false
 		}
 		c.gives = append(c.gives, row.gives)
@@ -40,13 +40,24 @@ func (c *checker) mayOrders() bool {
 	return true
 }
 
-func (c *checker) mayFields(o api.Ins, asked []field) bool {
+func (c *checker) mayFields(o api.Ins, row row) bool {
 	for i, n := range [...]int{o.X, o.Y, o.Z} {
-		if i < len(asked) && !asked[i](c, n) || i >= len(asked) && n != 0 {
+		if !c.mayField(i, n, row) {
 			return false
 		}
 	}
 	return true
+}
+
+// mayField asks of a number in the field of a place among X, Y and Z.
+func (c *checker) mayField(place, n int, row row) bool {
+	switch {
+	case place < row.asks:
+		return c.ahead(n)
+	case place == row.asks && row.then != nil:
+		return row.then(c, n)
+	}
+	return n == 0
 }
 
 // mayV asks of a value that is named, or else is nothing.

@@ -3,6 +3,7 @@ package trace_test
 import (
 	"math"
 	"slices"
+	"strings"
 	"testing"
 
 	"packtrail/api"
@@ -299,5 +300,29 @@ func TestMayLeave(t *testing.T) {
 			r.Snaps = []api.Snap{r.Snaps[0], bare().Snaps[0]}
 			r.Snaps[0].Regs[5] = entry
 		})
+	}
+}
+
+// J1: which fields of an order are numbers of orders ahead, as the table says it; they are told by their places.
+func TestAsked(t *testing.T) {
+	for _, op := range append(far, -1, 0, 1, 2, 3, 4, 5, 6, 7, 8, 9, 10, 11, 12, 19, 20, 21, 22, 23, 24, 25, 26, 27, 28, 29, 30, 31, 32, 40, 41) {
+		o := ins(op, 0, 1, 2, 3)
+		asked := trace.Asked(&o)
+		if want := strings.Count(letters(op), "o"); len(asked) != want {
+			t.Errorf("the order %d asks for %d, not %d", op, len(asked), want)
+		}
+		for i, n := range asked {
+			if *n != i+1 {
+				t.Errorf("the order %d: %d stands at %d", op, *n, i)
+			}
+			*n += 10
+		}
+		want := [...]int{1, 2, 3}
+		for i := range asked {
+			want[i] += 10
+		}
+		if [...]int{o.X, o.Y, o.Z} != want {
+			t.Errorf("the order %d: %+v", op, o)
+		}
 	}
 }

@@ -213,23 +213,6 @@ func TestByRule(t *testing.T) {
 	}
 }
 
-// numbers are the places of all numbers of a trace.
-func numbers(r *api.Trace) []*int {
-	list := []*int{&r.Fun, &r.Head}
-	for i := range r.Ins {
-		o := &r.Ins[i]
-		list = append(list, &o.Op, &o.X, &o.Y, &o.Z, &o.V.Kind, &o.Snap)
-	}
-	for i := range r.Snaps {
-		s := &r.Snaps[i]
-		list = append(list, &s.PC, &s.Steps)
-		for j := range s.Regs {
-			list = append(list, &s.Regs[j])
-		}
-	}
-	return list
-}
-
 // asks holds May against plainMay.
 func asks(t *testing.T, p api.Code, r api.Trace) bool {
 	t.Helper()
@@ -246,7 +229,7 @@ func TestMayByRule(t *testing.T) {
 	for number := range 250 {
 		p := sample.Code(number)
 		r := sample.Trace(p, number)
-		for _, n := range numbers(&r) {
+		for _, n := range sample.Numbers(&r) {
 			was := *n
 			for _, other := range []int{math.MinInt, -2, -1, 0, was - 1, was + 1, was + 3, 60001, math.MaxInt} {
 				*n = other
@@ -337,13 +320,6 @@ func values(s api.State) (lists [][]api.Value) {
 	return lists
 }
 
-// sameTrace tells whether two traces are the same.
-func sameTrace(a, b api.Trace) bool {
-	return a.Fun == b.Fun && a.Head == b.Head && slices.Equal(a.Ins, b.Ins) && slices.EqualFunc(a.Snaps, b.Snaps, func(a, b api.Snap) bool {
-		return a.PC == b.PC && a.Steps == b.Steps && slices.Equal(a.Regs, b.Regs)
-	})
-}
-
 // P3: what is handed in stays as it is, also behind the lists' lengths, and is not shared.
 func TestNothingShared(t *testing.T) {
 	for number := range 400 {
@@ -354,7 +330,7 @@ func TestNothingShared(t *testing.T) {
 		copied := sample.Copy(s)
 		for _, more := range []int{0, 12, 40} {
 			got, code := trace.Run(p, r, s, s.Steps+more)
-			if code != api.OK || !sample.Same(s, copied) || !sameTrace(r, was) || !stillBehind(r, s) {
+			if code != api.OK || !sample.Same(s, copied) || !sample.SameTrace(r, was) || !stillBehind(r, s) {
 				t.Fatalf("changed: %d, %d", number, code)
 			}
 			apart(t, got, s, p, r)
@@ -432,7 +408,7 @@ func FuzzRun(f *testing.F) {
 		s := sample.StateAt(p, r.Fun, r.Head, state)
 		agrees(t, p, r, s, s.Steps+int(uint(fuel)%100))
 		for i, n := range changes {
-			list := numbers(&r)
+			list := sample.Numbers(&r)
 			*list[(i*31+which&1023)%len(list)] = int(int8(n))
 			if asks(t, p, r) && r.Fun == s.Frames[len(s.Frames)-1].Fun && r.Head == s.Frames[len(s.Frames)-1].PC {
 				agrees(t, p, r, s, s.Steps+int(uint(fuel)%100))
