@@ -4,19 +4,11 @@ import "packtrail/api"
 
 // Trace is the trace of a number of a program that may be, by a fixed rule. Each of them may be (J1); its orders ask mostly for values of the right kinds.
 func Trace(p api.Code, number int) api.Trace {
-	d := dice(number)
-	fun := d.roll(len(p.Funs))
-	w := &tracer{dice: d, Fn: p.Funs[fun], funs: len(p.Funs), rare: 4 << (uint(number) % 4)}
-	w.Trace = api.Trace{Fun: fun, Head: w.roll(len(w.Code))}
+	w := newTracer(p, number)
 	for range w.roll(20) {
 		w.step()
 	}
-	end := w.snap()
-	end.PC, end.Steps = w.Head, end.Steps+1
-	for _, s := range w.Snaps {
-		end.Steps = max(end.Steps, s.Steps)
-	}
-	w.Snaps = append(w.Snaps, end)
+	w.end()
 	return w.Trace
 }
 
@@ -28,6 +20,24 @@ type tracer struct {
 	funs  int   // how many functions the program has
 	rare  int   // of so many orders that are asked for one is of any kind
 	kinds []int // of each order what its value mostly is
+}
+
+func newTracer(p api.Code, number int) *tracer {
+	d := dice(number)
+	fun := d.roll(len(p.Funs))
+	w := &tracer{dice: d, Fn: p.Funs[fun], funs: len(p.Funs), rare: 4 << (uint(number) % 4)}
+	w.Trace = api.Trace{Fun: fun, Head: w.roll(len(w.Code))}
+	return w
+}
+
+// end makes the last snapshot.
+func (w *tracer) end() {
+	end := w.snap()
+	end.PC, end.Steps = w.Head, end.Steps+1
+	for _, s := range w.Snaps {
+		end.Steps = max(end.Steps, s.Steps)
+	}
+	w.Snaps = append(w.Snaps, end)
 }
 
 // What an order's value is, beside the kinds of values.
