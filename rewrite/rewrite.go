@@ -8,7 +8,7 @@ import (
 	"packtrail/trace"
 )
 
-// Gone stands for an order that is there no longer, and that nobody asks for.
+// Gone stands for an order that is there no longer: no order asks for it, and no snapshot by which the trace may be left or ends.
 const Gone = -1
 
 // noSnap stands in an order by which a trace is never left.
@@ -50,12 +50,12 @@ func Val(v api.Value) api.Ins {
 	return api.Ins{Op: api.TVal, V: v, Snap: noSnap}
 }
 
-// snap is a snapshot of the other trace, for this one.
+// snap is a snapshot of the other trace, for this one. Where nobody leaves by it, it may name an order that is gone: it then names none.
 func (m *Maker) snap(s api.Snap) api.Snap {
 	regs := make([]int, len(s.Regs))
 	for reg, n := range s.Regs {
 		regs[reg] = asBegun
-		if n != asBegun {
+		if n != asBegun && m.now[n] != Gone {
 			regs[reg] = m.now[n]
 		}
 	}

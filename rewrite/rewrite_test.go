@@ -72,3 +72,22 @@ func TestFewer(t *testing.T) {
 		t.Errorf("%+v", u)
 	}
 }
+
+// A snapshot that names an order that is gone names none in its place.
+func TestGone(t *testing.T) {
+	r := api.Trace{Fun: 3, Head: 4, Ins: []api.Ins{
+		{Op: api.TReg, X: 5, Snap: -1}, {Op: api.TReg, X: 2, Snap: -1}, {Op: api.TOp + api.OpNot}, {Op: api.TOp + api.OpNot, X: 1},
+	}, Snaps: []api.Snap{{PC: 1, Regs: []int{0, 1, 2, -1}}, {PC: 4, Steps: 9, Regs: []int{-1, 1, -1, 3}}}}
+	u := rewrite.Each(r, func(m *rewrite.Maker, o api.Ins) int {
+		if o.X == 5 || o.X == rewrite.Gone {
+			return rewrite.Gone
+		}
+		return m.Add(o)
+	})
+	want := api.Trace{Fun: 3, Head: 4, Ins: []api.Ins{
+		{Op: api.TReg, X: 2, Snap: -1}, {Op: api.TOp + api.OpNot},
+	}, Snaps: []api.Snap{{PC: 1, Regs: []int{-1, 0, -1, -1}}, {PC: 4, Steps: 9, Regs: []int{-1, 0, -1, 1}}}}
+	if !sample.SameTrace(u, want) {
+		t.Errorf("%+v", u)
+	}
+}

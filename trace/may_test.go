@@ -308,8 +308,8 @@ func TestAsked(t *testing.T) {
 	for _, op := range append(far, -1, 0, 1, 2, 3, 4, 5, 6, 7, 8, 9, 10, 11, 12, 19, 20, 21, 22, 23, 24, 25, 26, 27, 28, 29, 30, 31, 32, 40, 41) {
 		o := ins(op, 0, 1, 2, 3)
 		asked := trace.Asked(&o)
-		if want := strings.Count(letters(op), "o"); len(asked) != want {
-			t.Errorf("the order %d asks for %d, not %d", op, len(asked), want)
+		if want := strings.Count(letters(op), "o"); len(asked) != want || trace.Asks(op) != want {
+			t.Errorf("the order %d asks for %d, by its Op %d, not %d", op, len(asked), trace.Asks(op), want)
 		}
 		for i, n := range asked {
 			if *n != i+1 {

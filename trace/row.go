@@ -42,8 +42,13 @@ func rowOf(op int) (row, bool) {
 	return row{}, false
 }
 
-// Asked are the fields of an order that are numbers of orders ahead, X first; there are none, if there is no such order.
+// Asks is how many of an order's fields X, Y and Z, X first, are numbers of orders ahead; none, if there is no such order.
+func Asks(op int) int {
+	row, _ := rowOf(op)
+	return row.asks
+}
+
+// Asked are the fields of an order that are numbers of orders ahead, X first.
 func Asked(o *api.Ins) []*int {
-	row, _ := rowOf(o.Op)
-	return []*int{&o.X, &o.Y, &o.Z}[:row.asks]
+	return []*int{&o.X, &o.Y, &o.Z}[:Asks(o.Op)]
 }
