@@ -190,6 +190,58 @@ func TestParts(t *testing.T) {
 	}
 }
 
+// goOn has a machine do steps, till its run ends.
+func goOn(m *machine.Machine, steps int) {
+	for range steps {
+		if m.End == api.EndFuel {
+			m.Step()
+		}
+	}
+}
+
+// H4: a machine's twin goes on from where that one is: whoever goes first, and from wherever, neither can tell.
+func TestTwin(t *testing.T) {
+	told, set := 0, 0
+	for number := range 900 {
+		p, s, _ := sample.Round(number)
+		if number%2 == 0 {
+			p = sample.Code(number)
+			s = sample.State(p, number)
+		}
+		s.Out = append(make([]string, 0, 90), s.Out...)
+		want, _ := machine.Go(p, s, s.Steps+30)
+		for apart := range 12 {
+			m := machine.New(p, s)
+			goOn(m, apart)
+			m.Out = append(make([]string, 0, 90), m.Out...)
+			here := m.Fresh()
+			twin := m.Twin()
+			goOn(twin, 30-apart)
+			if !same(m.State, here) || !same(twin.State, want) {
+				t.Fatalf("%v: %+v, its twin %+v; want %+v, %+v", p, m.State, twin.State, here, want)
+			}
+			third := m.Twin()
+			goOn(m, 30-apart)
+			if !same(m.State, want) || !same(twin.State, want) || !same(third.State, here) {
+				t.Fatalf("%v: %+v, its twins %+v, %+v; want %+v, %+v", p, m.State, twin.State, third.State, want, here)
+			}
+			// A text that only one of them tells is not told by the other.
+			m.Out, twin.Out = append(m.Out, "m"), append(twin.Out, "twin")
+			third.Out = append(third.Out, "third")
+			if m.Out[len(m.Out)-1] != "m" || twin.Out[len(twin.Out)-1] != "twin" || third.Out[len(third.Out)-1] != "third" {
+				t.Fatalf("%v: told by another", p)
+			}
+			told += len(want.Out) - len(here.Out)
+			if !slices.EqualFunc(here.Tables, want.Tables, func(a, b api.Table) bool { return slices.Equal(a.Vals, b.Vals) }) {
+				set++
+			}
+		}
+	}
+	if told < 1000 || set < 1000 {
+		t.Errorf("too few: %d told, %d set", told, set)
+	}
+}
+
 // P3: what is handed in stays as it is, also behind the lists' lengths, and is not shared.
 func TestNothingShared(t *testing.T) {
 	odd := api.Value{Kind: 99}

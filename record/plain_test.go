@@ -226,6 +226,24 @@ func TestPrograms(t *testing.T) {
 	}
 }
 
+// K1: a machine whose round is recorded stays where it is, and its trace is that of its state.
+func TestFrom(t *testing.T) {
+	for number := range 300 {
+		p, s, _ := sample.Round(number)
+		if number%3 == 0 {
+			p = sample.Code(number)
+			s = sample.State(p, number)
+		}
+		for _, most := range []int{1, 7, 20, 100, api.MaxIns} {
+			m := machine.New(p, s)
+			r, ok := record.From(m, most)
+			if want, is := record.Of(p, s, most); ok != is || !sample.SameTrace(r, want) || !sample.Same(m.State, s) {
+				t.Fatalf("From(%+v, %+v, %d): %+v, %v; want %+v, %v", p, m.State, most, r, ok, want, is)
+			}
+		}
+	}
+}
+
 // sameCode tells whether two programs are the same.
 func sameCode(a, b api.Code) bool {
 	return a.Main == b.Main && slices.EqualFunc(a.Funs, b.Funs, func(a, b api.Fn) bool {

@@ -24,8 +24,9 @@ const asBegun = -1
 // noSnap stands in an order by which the trace is never left.
 const noSnap = -1
 
-func begin(p api.Code, s api.State) *recorder {
-	r := &recorder{Machine: machine.New(p, s), began: s.Steps}
+// begin goes along with a twin of a machine, so that this one stays where it is.
+func begin(m *machine.Machine) *recorder {
+	r := &recorder{Machine: m.Twin(), began: m.Steps}
 	f := r.Top()
 	r.Fun, r.Head = f.Fun, f.PC
 	r.set = slices.Repeat([]int{asBegun}, len(f.Regs))

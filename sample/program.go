@@ -9,19 +9,8 @@ import (
 
 // Program is the program of a number, by a fixed rule. Nearly all of them may be (E1); what they do is mostly of the right kinds, and mostly comes to an end.
 func Program(number int) string {
-	w := &writer{dice: dice(number), rare: 8 << (uint(number) % 6)}
-	for i := range w.roll(4) {
-		f := fun{name: w.one("n n s t") + "f" + strconv.Itoa(i)}
-		for range w.roll(4) {
-			f.params = append(f.params, w.one("n n s t"))
-		}
-		w.funs = append(w.funs, f)
-	}
-	texts := []string{w.fun(fun{name: "main"}, w.funs)}
-	for i, f := range w.funs {
-		texts = slices.Insert(texts, w.roll(len(texts)+1), w.fun(f, w.funs[i+1:]))
-	}
-	return strings.Join(texts, " ")
+	w := newWriter(number, 8)
+	return w.beside(w.fun(fun{name: "main"}, w.funs))
 }
 
 // dice gives numbers that hang on the last one alone.
@@ -55,8 +44,35 @@ type writer struct {
 	made  int      // how many locals the function had so far
 }
 
-func (w *writer) fun(f fun, below []fun) string {
+// newWriter has the functions beside main in mind, whose texts it has not written yet.
+func newWriter(number, rare int) *writer {
+	w := &writer{dice: dice(number), rare: rare << (uint(number) % 6)}
+	for i := range w.roll(4) {
+		f := fun{name: w.one("n n s t") + "f" + strconv.Itoa(i)}
+		for range w.roll(4) {
+			f.params = append(f.params, w.one("n n s t"))
+		}
+		w.funs = append(w.funs, f)
+	}
+	return w
+}
+
+// beside writes the program of a main, with the other functions anywhere beside it.
+func (w *writer) beside(main string) string {
+	texts := []string{main}
+	for i, f := range w.funs {
+		texts = slices.Insert(texts, w.roll(len(texts)+1), w.fun(f, w.funs[i+1:]))
+	}
+	return strings.Join(texts, " ")
+}
+
+// begin begins a function: no locals are there.
+func (w *writer) begin(below []fun) {
 	w.below, w.there, w.outer, w.made = below, nil, 0, 0
+}
+
+func (w *writer) fun(f fun, below []fun) string {
+	w.begin(below)
 	for _, letter := range f.params {
 		w.there = append(w.there, w.fresh(letter))
 	}

@@ -399,6 +399,36 @@ func TestTextsApart(t *testing.T) {
 	}
 }
 
+// J2: a runner on a machine does what Run does, each time that the machine is at the head: what was done ahead counts for nothing.
+func TestOn(t *testing.T) {
+	again := 0
+	for number := range 900 {
+		p := sample.Code(number)
+		r := sample.Trace(p, number)
+		s := sample.StateAt(p, r.Fun, r.Head, number)
+		s.Steps += 200 // such a trace may tell more than it takes steps
+		m := machine.New(p, s)
+		runner := trace.On(m, r)
+		for i := range 5 {
+			fuel := s.Steps + 7*i
+			want, code := trace.Run(p, r, s, fuel)
+			runner.Rounds(fuel)
+			if code != api.OK || !sample.Same(m.State, want) {
+				t.Fatalf("%+v of %+v\nfrom %+v\nwith %d: %+v; want %+v", r, p, s, fuel, m.State, want)
+			}
+			s = want
+			f := &s.Frames[len(s.Frames)-1]
+			if f.PC == r.Head {
+				again++
+			}
+			f.PC, m.Top().PC = r.Head, r.Head
+		}
+	}
+	if again < 100 {
+		t.Errorf("%d times at the head only", again)
+	}
+}
+
 func FuzzRun(f *testing.F) {
 	f.Add(1, 2, 3, 30, []byte{4, 1})
 	f.Add(77, 5, 9, 7, []byte{})

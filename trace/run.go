@@ -6,8 +6,8 @@ import (
 	"packtrail/value"
 )
 
-// runner runs a trace on a machine that is at its head.
-type runner struct {
+// Runner runs a trace on a machine, whenever that is at its head.
+type Runner struct {
 	*machine.Machine
 	api.Trace
 	values []api.Value // those of the orders that were done in this round, by their numbers
@@ -16,7 +16,13 @@ type runner struct {
 // exit is thrown where a trace is left by a snapshot.
 type exit struct{ by api.Snap }
 
-func (r *runner) rounds(fuel int) {
+// On makes a runner of a trace that may be, on a machine of the same program.
+func On(m *machine.Machine, t api.Trace) *Runner {
+	return &Runner{m, t, make([]api.Value, len(t.Ins))}
+}
+
+// Rounds does rounds on the machine, which is at the trace's head and may go on, as long as there is fuel for a whole one, and the trace is not left (J2).
+func (r *Runner) Rounds(fuel int) {
 	end := r.Snaps[len(r.Snaps)-1]
 	inside := true
 	for inside && r.Steps+end.Steps <= fuel {
@@ -25,7 +31,7 @@ func (r *runner) rounds(fuel int) {
 }
 
 // round does the orders one by one up to the end, and tells whether the trace was not left (J3).
-func (r *runner) round(end api.Snap) (inside bool) {
+func (r *Runner) round(end api.Snap) (inside bool) {
 	defer func() {
 		switch x := recover().(type) {
 		case nil:
@@ -43,7 +49,7 @@ func (r *runner) round(end api.Snap) (inside bool) {
 }
 
 // goOn lays down in the machine what a snapshot says.
-func (r *runner) goOn(by api.Snap) {
+func (r *Runner) goOn(by api.Snap) {
 	f := r.Top()
 	for reg, n := range by.Regs {
 		if n != -1 {
@@ -55,7 +61,7 @@ func (r *runner) goOn(by api.Snap) {
 }
 
 // do does the order at a place. Registers are as the round began: they change only where it ends, or is left.
-func (r *runner) do(at int, o api.Ins) {
+func (r *Runner) do(at int, o api.Ins) {
 	switch o.Op {
 	case api.TReg:
 		r.values[at] = r.Top().Regs[o.X]
@@ -75,14 +81,14 @@ func (r *runner) do(at int, o api.Ins) {
 }
 
 // need leaves the trace by the order's snapshot, unless something holds.
-func (r *runner) need(o api.Ins, holds func() bool) {
+func (r *Runner) need(o api.Ins, holds func() bool) {
 	if !holds() {
 		panic(exit{r.Snaps[o.Snap]})
 	}
 }
 
 // answer does an order that may fail as the machine's do, and answers its value.
-func (r *runner) answer(o api.Ins) api.Value {
+func (r *Runner) answer(o api.Ins) api.Value {
 	switch o.Op {
 	case api.TNew:
 		return r.NewTable()
